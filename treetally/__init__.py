@@ -1,0 +1,1 @@
+"""Treetally: in how many ways the places of a net hang together."""
