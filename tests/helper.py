@@ -3,6 +3,7 @@
 import unittest
 from copy import deepcopy
 from itertools import combinations, combinations_with_replacement, product
+from random import Random
 
 from treetally import errors
 
@@ -58,6 +59,10 @@ KNOWN_NETS = [
 # Sixteen ties on seven places, some of them alike and one from a place to itself.
 FULL_NET = (7, wheel(6) + [(0, 3), (3, 0), (2, 2), (5, 1)])
 
+# Sixteen of the pairs of seven places: of all such nets these have the most hangings.
+_LEFT_OUT = [(0, 1), (0, 3), (1, 3), (2, 4), (5, 6)]
+RICH_NET = (7, [pair for pair in every_pair(7) if pair not in _LEFT_OUT])
+
 BROKEN_NET = (6, [(5, 2), (4, 0), (2, 5), (3, 3), (0, 4)])
 
 
@@ -70,12 +75,30 @@ def tiny_nets():
                 yield many, list(ties)
 
 
+def mixed_nets():
+    """Nets of up to six places and nine ties, in no order, made alike each time."""
+    chance = Random(7)
+    for size in range(90):
+        many = 1 + size % 6
+        yield many, [
+            (chance.randrange(many), chance.randrange(many)) for _ in range(chance.randrange(10))
+        ]
+
+
 def nets():
     for many, ties, _ in KNOWN_NETS:
         yield many, list(ties)
     yield FULL_NET[0], list(FULL_NET[1])
     yield BROKEN_NET[0], list(BROKEN_NET[1])
     yield from tiny_nets()
+    yield from mixed_nets()
+
+
+def small_nets():
+    """Nets small enough to try all lists of ties, and all pairs of their hangings."""
+    for many, ties in nets():
+        if len(ties) <= 10:
+            yield many, ties
 
 
 def reached(many, ties):
@@ -92,25 +115,33 @@ def reached(many, ties):
     return found
 
 
-def count_of_hangings(many, ties):
-    """Count the hangings straight by [3]: enough ties, and none of them to spare."""
+def joins(many, ties, some):
+    """Tell whether all places hang together by these ties alone."""
+    return len(reached(many, [ties[tie] for tie in some])[0]) == many
 
-    def joins(some):
-        return len(reached(many, [ties[tie] for tie in some])[0]) == many
 
-    count = 0
+def hangings_by_words(many, ties):
+    """Find the hangings straight by [3]: enough ties, and none of them to spare."""
+    found = []
     for size in range(len(ties) + 1):
         for some in combinations(range(len(ties)), size):
             fewer = (some[:at] + some[at + 1:] for at in range(size))
-            if joins(some) and not any(joins(less) for less in fewer):
-                count += 1
-    return count
+            if joins(many, ties, some) and not any(joins(many, ties, less) for less in fewer):
+                found.append(list(some))
+    return sorted(found)
 
 
-def picked_count(many, ties):
-    """Count the hangings of a larger net: one tie less than places, by which all hang together."""
-    some = combinations(ties, many - 1)
-    return sum(len(reached(many, list(these))[0]) == many for these in some)
+def hangings_by_trying(many, ties):
+    """Try all rising lists of as many numbers as there are places, less one."""
+    tried = combinations(range(len(ties)), many - 1)
+    return sorted(list(some) for some in tried if joins(many, ties, some))
+
+
+def picked(count):
+    """The numbers below count, where there are many just some, the ends among them."""
+    if count <= 60:
+        return list(range(count))
+    return [*range(20), *range(20, count, count // 40), count - 2, count - 1]
 
 
 class Thorn:
@@ -176,6 +207,53 @@ def wrong_numbers(size):
     ]
 
 
+class OwnList(list):
+    pass
+
+
+class OwnNumber(int):
+    pass
+
+
+def never_hangings():
+    """What is no hanging of any net."""
+    return [
+        None, True, False, 0, 1, -1, 10 ** 5000, 1.5, 1j, "", "0", "01", b"", b"\0\1", (), (0,),
+        (0, 1), {}, {0: True}, set(), {0, 1}, frozenset(), range(0), range(2), iter([]), iter([0]),
+        slice(0, 1), list, Thorn(), _own_lists(), [Thorn()], OwnList(), OwnList([0, 1]), [()],
+        [None], ["0"], [b"0"], [[0]], [(0,)], [0.0], [0, 1.0], [float("nan")], [[]], [[], []],
+        [0, None], [None, 0], [0, "1"], ["0", 1], [0, [1]], [0, Thorn()], [10 ** 5000], [-1],
+        [0, -1], [-10 ** 5000, 0], [False], [True], [True, False], [OwnNumber(0)],
+        [0, OwnNumber(1)], [False, True], [False, 1], [0, True], [0, 0], [1, 1], [1, 0],
+        list(range(7)), list(range(16)), [0] * 6, [0, 1, 2, 3, 4, 4], [0] * 100000,
+    ]
+
+
+def spoilt_hangings(many, ties, right):
+    """What comes of a hanging of a net by small changes, and is none of it any more."""
+    count = len(ties)
+    spoilt = [
+        tuple(right), dict.fromkeys(right, True), set(right), range(many - 1), iter(right),
+        OwnList(right), [right], (right,), str(right), right + [count], right + [None],
+        [-1] + right, right + [right],
+    ]
+    spoilt.extend(sorted(right + [tie]) for tie in range(count))
+    spoilt.extend([tie] + right for tie in (0, count - 1, True, False))
+    if len(right) > 1:
+        spoilt.extend([right[::-1], right[1:] + right[:1], right[:1] + right[:1] + right[2:]])
+    for at, tie in enumerate(right):
+        for other in (
+            count, count + tie, -1, tie - count, None, float(tie), str(tie), [tie], (tie,),
+            OwnNumber(tie), Thorn(), 10 ** 5000, -10 ** 5000,
+        ):
+            spoilt.append(right[:at] + [other] + right[at + 1:])
+        if tie < 2:
+            spoilt.append(right[:at] + [bool(tie)] + right[at + 1:])
+        spoilt.append(right[:at] + right[at + 1:])
+        spoilt.append(right[:at] + [tie] + right[at:])
+    return spoilt
+
+
 class NetCase(unittest.TestCase):
     def assert_refused(self, error, call, *handed):
         """Look that a call is refused with just this error, and with no other one's name."""
@@ -212,6 +290,10 @@ class NetCase(unittest.TestCase):
         self.assertEqual(handed, handed_before)
         self.assertEqual(kept, right)
         self.assertEqual(call(*handed), right)
+
+    def assert_own_lists(self, lists):
+        """Look that each list in a list is one of its own."""
+        self.assertEqual(len({id(one) for one in lists}), len(lists))
 
 
 def _spoil(answer):

@@ -21,7 +21,20 @@ INTERFACE = {
     },
     "worths.py": {"worth_of": ["rows"]},
     "tallies.py": {"table_of": ["many", "ties"], "tally": ["many", "ties"]},
+    "hangings.py": {
+        "is_hanging": ["many", "ties", "some"],
+        "all_hangings": ["many", "ties", "most"],
+    },
+    "numbers.py": {
+        "hanging_of": ["many", "ties", "number"],
+        "number_of": ["many", "ties", "some"],
+    },
+    "shares.py": {"standing": ["many", "ties"]},
+    "ways.py": {"exchanges": ["many", "ties", "one", "other"]},
 }
+
+# Of the names that the language lets in from outside, those that the package takes.
+LIBRARY = {"itertools": {"combinations"}}
 
 ALLOWED_BUILTINS = {
     "len", "range", "enumerate", "zip", "min", "max", "sum", "abs", "sorted", "reversed", "int",
@@ -38,6 +51,11 @@ def trees():
     for path in files():
         if path.suffix == ".py":
             yield path, ast.parse(path.read_text(encoding="utf-8"))
+
+
+def defined_in(path):
+    tree = ast.parse(path.read_text(encoding="utf-8"))
+    return {node.name for node in tree.body if isinstance(node, (ast.ClassDef, ast.FunctionDef))}
 
 
 class InterfaceTest(unittest.TestCase):
@@ -83,8 +101,23 @@ class LanguageTest(unittest.TestCase):
                 self.assertNotIsInstance(node, ast.Import, path)
                 if isinstance(node, ast.ImportFrom):
                     self.assertEqual(node.level, 0, path)
-                    self.assertTrue(node.module.startswith("treetally."), path)
                     self.assertIn(node, tree.body, path)
+                    self.assertTrue(all(alias.asname is None for alias in node.names), path)
+                    words = {alias.name for alias in node.names}
+                    if not words <= LIBRARY.get(node.module, set()):
+                        self.assertTrue(node.module.startswith("treetally."), path)
+                        name = node.module.removeprefix("treetally.") + ".py"
+                        self.assertLessEqual(words, defined_in(FOLDER / name), path)
+
+    def test_no_two_files_import_from_each_other(self):
+        imported = {}
+        for path, tree in trees():
+            froms = [node.module for node in tree.body if isinstance(node, ast.ImportFrom)]
+            imported["treetally." + path.stem] = froms
+        while imported:
+            ready = [name for name in imported if not any(other in imported for other in imported[name])]
+            self.assertNotEqual(ready, [], imported)
+            imported = {name: imported[name] for name in imported if name not in ready}
 
     def test_builtins_are_those_that_the_language_has(self):
         for path, tree in trees():

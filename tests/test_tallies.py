@@ -4,10 +4,11 @@ from tests.helper import (
     BROKEN_NET,
     FULL_NET,
     KNOWN_NETS,
+    RICH_NET,
     NetCase,
-    count_of_hangings,
+    hangings_by_trying,
+    hangings_by_words,
     nets,
-    picked_count,
     tiny_nets,
     wrong_nets,
 )
@@ -71,14 +72,15 @@ class TallyTest(NetCase):
 
     def test_against_a_count_of_tiny_nets(self):
         for many, ties in tiny_nets():
-            self.assertEqual(tally(many, ties), count_of_hangings(many, ties))
+            self.assertEqual(tally(many, ties), len(hangings_by_words(many, ties)))
 
     def test_against_a_count_of_larger_nets(self):
-        self.assertEqual(tally(*FULL_NET), picked_count(*FULL_NET))
+        self.assertEqual(tally(*FULL_NET), len(hangings_by_trying(*FULL_NET)))
+        self.assertEqual(tally(*RICH_NET), len(hangings_by_trying(*RICH_NET)))
         self.assertGreater(tally(*FULL_NET), 320)
         ties = [(0, 1), (1, 2), (2, 3), (3, 0), (0, 2), (2, 0), (3, 3), (4, 1), (1, 4)]
-        self.assertEqual(tally(5, ties), count_of_hangings(5, ties))
-        self.assertEqual(tally(*BROKEN_NET), count_of_hangings(*BROKEN_NET))
+        self.assertEqual(tally(5, ties), len(hangings_by_words(5, ties)))
+        self.assertEqual(tally(*BROKEN_NET), len(hangings_by_words(*BROKEN_NET)))
 
     def test_against_nets_without_a_tie_and_drawn_together_along_it(self):
         for many, ties in nets():

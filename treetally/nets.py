@@ -6,9 +6,16 @@ MOST_PLACES = 7
 MOST_TIES = 16
 
 
+def is_whole(value, least, most):
+    """Tell whether anything that is handed in is a whole number from least to most."""
+    # The very kind is asked for: True is an integer to Python, and other
+    # things could call themselves one and then fail when they are compared.
+    return type(value) is int and least <= value <= most
+
+
 def need_net(many, ties):
     """Refuse with BadNet what is no net."""
-    if not _is_whole(many, 1, MOST_PLACES):
+    if not is_whole(many, 1, MOST_PLACES):
         raise BadNet("how many places there are is no whole number from 1 to 7")
     if type(ties) is not list or len(ties) > MOST_TIES:
         raise BadNet("the ties are no list of none to 16 ties")
@@ -50,21 +57,15 @@ def net_together(many, ties, tie):
     return (many - 1, [(_moved(one, low, high), _moved(other, low, high)) for one, other in rest])
 
 
-def _is_whole(value, least, most):
-    # The very kind is asked for: True is an integer to Python, and other
-    # things could call themselves one and then fail when they are compared.
-    return type(value) is int and least <= value <= most
-
-
 def _is_tie(many, tie):
     if type(tie) is not tuple or len(tie) != 2:
         return False
-    return _is_whole(tie[0], 0, many - 1) and _is_whole(tie[1], 0, many - 1)
+    return is_whole(tie[0], 0, many - 1) and is_whole(tie[1], 0, many - 1)
 
 
 def _need_tie(many, ties, tie):
     need_net(many, ties)
-    if not _is_whole(tie, 0, len(ties) - 1):
+    if not is_whole(tie, 0, len(ties) - 1):
         raise BadTie("the net has no tie with that number")
 
 

@@ -1,6 +1,6 @@
 """The table of a net, and its tally: how many hangings it has."""
 
-from treetally.nets import need_net
+from treetally.nets import need_net, net_together
 from treetally.worths import worth_of
 
 
@@ -22,3 +22,12 @@ def tally(many, ties):
     table = table_of(many, ties)
     # Any place may be left out; the last one is as good as each other one.
     return worth_of([row[:-1] for row in table[:-1]])
+
+
+def tally_with(many, ties, tie):
+    """Tell in how many hangings of a net the tie with that number stands."""
+    one, other = ties[tie]
+    if one == other:
+        return 0
+    fewer, drawn = net_together(many, ties, tie)
+    return tally(fewer, drawn)
